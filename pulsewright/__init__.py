@@ -1,0 +1,1 @@
+"""Pulsewright: rules of pulses, and tables that write any message by them."""
