@@ -47,3 +47,66 @@ def slow_fault(row, words=(), low=0, high=None, span=None):
         if not slow_lets(row[:signs], words, low, high, span):
             return signs
     return None
+
+
+# A row that isn't lasting has ended by then, by whichever rule; so far as tests go through rules.
+FAR_AHEAD = 40
+
+
+def slow_lasting(rule, row):
+    """Whether some lawful row goes on from this one for so long that it must go on for ever."""
+    if not rule.lets(row):
+        return False
+    waiting = [row]
+    while waiting:
+        longer = waiting.pop()
+        if len(longer) == len(row) + FAR_AHEAD:
+            return True
+        waiting += [longer + sign for sign in "10" if rule.lets(longer + sign)]
+    return False
+
+
+class SlowRows:
+    """The lasting rows of a rule, each looked for one by one, and what is told of them."""
+
+    def __init__(self, rule):
+        self.rule = rule
+        self.known = {}
+
+    def lasts(self, row):
+        if row not in self.known:
+            self.known[row] = slow_lasting(self.rule, row)
+        return self.known[row]
+
+    def rows(self, signs):
+        """All lasting rows of so many signs, in their order."""
+        told = [""] if self.lasts("") else []
+        for _ in range(signs):
+            told = [row + sign for row in told for sign in "01" if self.lasts(row + sign)]
+        return told
+
+    def behind(self, row, signs):
+        """All rows of up to so many signs that, set behind the row, make lasting rows."""
+        told = level = [""]
+        for _ in range(signs):
+            level = [more + sign for more in level for sign in "01" if self.lasts(row + more + sign)]
+            told = told + level
+        return tuple(told)
+
+    def web(self, signs):
+        """The web, and the first row to each stand, where rows of up to so many signs part all stands."""
+        if not self.lasts(""):
+            return [], []
+        firsts = [""]
+        stands = [self.behind("", signs)]
+        pairs = []
+        for row in firsts:
+            pair = []
+            for longer in (row + "0", row + "1"):
+                told = self.behind(longer, signs) if self.lasts(longer) else None
+                if told is not None and told not in stands:
+                    stands.append(told)
+                    firsts.append(longer)
+                pair.append(None if told is None else stands.index(told))
+            pairs.append(tuple(pair))
+        return pairs, firsts

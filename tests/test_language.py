@@ -22,6 +22,12 @@ BARRED_WORDS = set(
 BARRED_PARTS = ("dataclass", "overload", "contextmanager")
 BARRED_STATEMENTS = (
     ast.Global, ast.AsyncFunctionDef, ast.AsyncFor, ast.AsyncWith, ast.Await, ast.Import, ast.Div)
+LISTENERS = {"any", "all", "min", "max", "sum", "sorted"}
+METHODS = set(
+    "append clear copy count endswith extend find get index insert isalnum isalpha isdigit islower "
+    "isspace isupper items join keys ljust lower lstrip partition pop remove replace reverse rfind "
+    "rjust rpartition rsplit rstrip setdefault split splitlines startswith strip update upper values "
+    "zfill bit_length add discard __init__".split())
 LISTED = {
     "rules.py": {"Rule": "words low high span lets fault barring freeing bounded joined __eq__ "
                          "__str__ __repr__".split()},
@@ -110,6 +116,37 @@ class LanguageTest(unittest.TestCase):
             methods |= more_methods
             attributes |= more_attributes
         self.assertEqual(methods & attributes, set())
+
+    def test_called_methods_are_listed_or_own(self):
+        own = set()
+        for path, tree in each_tree():
+            own |= methods_and_attributes(tree)[0]
+        for path, tree in each_tree():
+            for node in ast.walk(tree):
+                if isinstance(node, ast.Call) and isinstance(node.func, ast.Attribute):
+                    self.assertIn(node.func.attr, METHODS | own, path.name)
+
+    def test_lists_instead_of_generators_and_no_open_powers(self):
+        for path, tree in each_tree():
+            for node in ast.walk(tree):
+                if isinstance(node, ast.Call) and getattr(node.func, "id", None) in LISTENERS:
+                    for given in node.args:
+                        self.assertNotIsInstance(given, ast.GeneratorExp)
+                if isinstance(node, ast.BinOp) and isinstance(node.op, ast.Pow):
+                    self.assertIsInstance(node.right, ast.Constant)
+                if isinstance(node, ast.Compare) and isinstance(node.ops[0], (ast.Is, ast.IsNot)):
+                    self.assertIsInstance(node.comparators[0], ast.Constant)
+
+    def test_no_local_name_is_that_of_an_import_or_a_class(self):
+        for path, tree in each_tree():
+            taken = {name.asname or name.name for node in tree.body
+                     if isinstance(node, ast.ImportFrom) for name in node.names}
+            taken |= {node.name for node in tree.body if isinstance(node, ast.ClassDef)}
+            for node in ast.walk(tree):
+                if isinstance(node, ast.arg):
+                    self.assertNotIn(node.arg, taken, path.name)
+                if isinstance(node, ast.Name) and isinstance(node.ctx, ast.Store):
+                    self.assertNotIn(node.id, taken, path.name)
 
     def test_module_level(self):
         kept = (ast.ImportFrom, ast.FunctionDef, ast.ClassDef, ast.Assign)
