@@ -31,6 +31,8 @@ METHODS = set(
 LISTED = {
     "rules.py": {"Rule": "words low high span lets fault barring freeing bounded joined __eq__ "
                          "__str__ __repr__".split()},
+    "tables.py": {"Table": "__init__ rule pace weights pairs lots step write read __len__ __eq__".split()},
+    "reader.py": {"Reader": "__init__ feed choices sure fed ended twin".split()},
 }
 
 
