@@ -6,7 +6,7 @@ from pulsewright.rows import check_row
 from pulsewright.tables import START
 
 
-def written_on(table, written, block):
+def messages_with(table, written, block):
     """The messages by pair that also write this block."""
     longer = {}
     for pair in written:
@@ -37,7 +37,7 @@ class Reader:
         whole = len(signs) - len(signs) % self.coder.q_signs
         written = self.written
         for block in blocks_of(signs[:whole], self.coder.q_signs):
-            written = written_on(self.coder, written, block)
+            written = messages_with(self.coder, written, block)
         if not goes_on(self.coder, written, signs[whole:]):
             raise Unread("no message is written so")
         self.row_fed += piece

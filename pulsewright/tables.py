@@ -98,27 +98,33 @@ class Table:
             rows.append(row)
         return ("".join(rows), here)
 
+    def traced(self, passed, blocks, share):
+        """The share from which blocks that pass these stands led to a share, and their signs, None where none did."""
+        here = share
+        parts = []
+        for stand, block in reversed(list(zip(passed, blocks))):
+            # Each lot is taken by one share at most.
+            source = self.sources.get((stand, block, here))
+            if source is None:
+                return None
+            here, signs = source
+            parts.append(signs)
+        return here, parts[::-1]
+
     def read(self, row, pair):
         """The message that wrote a row from (0, 0) on and led to a pair."""
         check_row(row)
         check_length(row, self.q_signs)
         self.check_pair(pair)
-        # The row alone tells the stands it passes; from behind each lot has but one share that takes it.
+        # The row alone tells the stands it passes; from behind it is read on by their shares.
         passed = along(self.ways, row)[::self.q_signs]
         blocks = blocks_of(row, self.q_signs)
-        stand, share = pair
-        if len(passed) <= len(blocks) or passed[-1] != stand:
+        if len(passed) <= len(blocks) or passed[-1] != pair[0]:
             raise Unread("the row leads to another stand, or to none")
-        parts = []
-        for at in reversed(range(len(blocks))):
-            source = self.sources.get((passed[at], blocks[at], share))
-            if source is None:
-                raise Unread(f"the block {at} was not written so")
-            share, signs = source
-            parts.append(signs)
-        if share != START[1]:
-            raise Unread("it was not written from the beginning of the table")
-        return "".join(reversed(parts))
+        traced = self.traced(passed, blocks, pair[1])
+        if traced is None or traced[0] != START[1]:
+            raise Unread("no message writes the row so")
+        return "".join(traced[1])
 
     def __eq__(self, other):
         return (isinstance(other, Table) and self.p_signs == other.p_signs

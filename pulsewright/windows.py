@@ -84,20 +84,17 @@ def doubt(table):
     return told if around is None else told + both_messages(around)
 
 
-def reach(table):
-    """The memory of the table's rule, and what the table looks ahead."""
-    return memory_of(table.ways), ahead(table)
-
-
-def does_slide(back, forth):
-    """Whether a table of that memory and look ahead slides."""
-    return back is not None and forth is not None
-
-
 def slides(table):
     """Whether the table slides."""
-    back, forth = reach(table)
-    return does_slide(back, forth)
+    return memory_of(table.ways) is not None and ahead(table) is not None
+
+
+def sliding_reach(table):
+    """The memory of the table's rule and what it looks ahead; Endless where it doesn't slide."""
+    back, forth = memory_of(table.ways), ahead(table)
+    if back is None or forth is None:
+        raise Endless("no window is wide enough for this table")
+    return back, forth
 
 
 def check_tape(row):
@@ -116,22 +113,17 @@ def told_block(table, before, blocks):
     passed = along(table.ways, row)
     if len(passed) <= len(row):
         return None
-    stands = passed[len(before)::table.q_signs]
-    written = {share: "" for share in range(table.sizes[stands[-1]])}
-    for stand, block in reversed(list(zip(stands, blocks))):
-        sources = [table.sources.get((stand, block, share)) for share in written]
-        written = {source[0]: source[1] for source in sources if source is not None}
-    # The blocks behind the first one tell its goal's share, so at most one lot is left.
-    return "".join(written.values()) if written else None
+    # A stand's first lots are the ones taken, so where any share has this written behind it the share 0 has; and
+    # whichever share that is, the blocks behind the first one tell the same share of its goal.
+    traced = table.traced(passed[len(before)::table.q_signs], blocks, 0)
+    return None if traced is None else traced[1][0]
 
 
 def slide(table, row, late=False):
     """For each block of a row the signs that wrote it, None where they aren't told."""
     check_tape(row)
     check_length(row, table.q_signs)
-    back, forth = reach(table)
-    if not does_slide(back, forth):
-        raise Endless("no window is wide enough for this table")
+    back, forth = sliding_reach(table)
     blocks = blocks_of(row, table.q_signs)
     told = []
     for at in range(len(blocks)):

@@ -49,6 +49,15 @@ def slow_fault(row, words=(), low=0, high=None, span=None):
     return None
 
 
+def gone(stands, stand, row):
+    """The stand to which a row leads from a stand, None where it can't be gone."""
+    for sign in row:
+        if stand is None:
+            return None
+        stand = stands[stand][int(sign)]
+    return stand
+
+
 # A row that isn't lasting has ended by then, by whichever rule; so far as tests go through rules.
 FAR_AHEAD = 40
 

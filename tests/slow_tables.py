@@ -2,6 +2,7 @@
 
 import itertools
 
+from oracle import gone
 from pulsewright.weights import steps, weights
 from pulsewright.webs import web
 
@@ -13,15 +14,6 @@ def messages(p, many):
 
 def cut(row, by):
     return [row[at:at + by] for at in range(0, len(row), by)]
-
-
-def gone(stands, stand, row):
-    """The stand to which a row leads from a stand, None where it can't be gone."""
-    for sign in row:
-        if stand is None:
-            return None
-        stand = stands[stand][int(sign)]
-    return stand
 
 
 class SlowTable:

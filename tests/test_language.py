@@ -33,6 +33,10 @@ LISTED = {
                          "__str__ __repr__".split()},
     "tables.py": {"Table": "__init__ rule pace weights pairs lots step write read __len__ __eq__".split()},
     "reader.py": {"Reader": "__init__ feed choices sure fed ended twin".split()},
+    "loft.py": {"Loft": "__init__ rule bar free bound forget table drop line write turn wipe cut burn do undo redo "
+                        "deeds undone twin rules tables lines rule_of table_of tape told pair late used faults "
+                        "spoilt read __eq__ __len__ __repr__".split()},
+    "desk.py": {"Desk": "__init__ loft say".split()},
 }
 
 
@@ -149,6 +153,29 @@ class LanguageTest(unittest.TestCase):
                     self.assertNotIn(node.arg, taken, path.name)
                 if isinstance(node, ast.Name) and isinstance(node.ctx, ast.Store):
                     self.assertNotIn(node.id, taken, path.name)
+
+    def test_comparing_and_telling_methods_assign_nothing(self):
+        for path, tree in each_tree():
+            for node in ast.walk(tree):
+                if isinstance(node, ast.FunctionDef) and node.name in ("__eq__", "__repr__", "__str__", "__len__"):
+                    for part in ast.walk(node):
+                        self.assertNotIsInstance(part, (ast.Assign, ast.AugAssign, ast.Delete), path.name)
+
+    def test_what_is_iterated_at_once_is_not_kept(self):
+        for path, tree in each_tree():
+            for node in ast.walk(tree):
+                if isinstance(node, (ast.Assign, ast.Return)) and isinstance(node.value, ast.Call):
+                    called = node.value.func
+                    name = getattr(called, "id", None) or getattr(called, "attr", None)
+                    self.assertNotIn(name, ("zip", "enumerate", "reversed", "range", "items", "keys", "values"))
+
+    def test_no_function_of_the_package_has_the_name_of_another_one(self):
+        seen = {}
+        for path, tree in each_tree():
+            for node in tree.body:
+                if isinstance(node, ast.FunctionDef):
+                    self.assertNotIn(node.name, seen, path.name)
+                    seen[node.name] = path.name
 
     def test_module_level(self):
         kept = (ast.ImportFrom, ast.FunctionDef, ast.ClassDef, ast.Assign)

@@ -4,6 +4,7 @@ import itertools
 import random
 import unittest
 
+from cases import RefusalCase
 from pulsewright.errors import BadLength, BadPair, BadRow, Unread
 from pulsewright.reader import Reader
 from pulsewright.rules import Rule
@@ -43,16 +44,7 @@ def slow_sure(open_ones, p):
     return open_ones[0][:same]
 
 
-class ReaderCase(unittest.TestCase):
-    def refuses(self, error, asked, *given, **fields):
-        with self.assertRaises(error) as caught:
-            asked(*given)
-        self.assertIs(caught.exception.__class__, error)
-        for name, value in fields.items():
-            self.assertEqual(getattr(caught.exception, name), value)
-
-
-class FeedTest(ReaderCase):
+class FeedTest(RefusalCase):
     def test_nothing_fed(self):
         for made, table in made_tables():
             self.assertEqual(told(Reader(table)), ([""], "", ""))
@@ -143,7 +135,7 @@ class FeedTest(ReaderCase):
         self.assertEqual(reader.fed(), row)
 
 
-class RefusedTest(ReaderCase):
+class RefusedTest(RefusalCase):
     def test_a_bad_row(self):
         reader = fed(Table(NO_TWO, 1, 2, 1), "000")
         kept = told(reader)
@@ -200,7 +192,7 @@ class RefusedTest(ReaderCase):
         self.assertEqual(reader.ended(pair=(0, 1)), "0100")
 
 
-class TwinTest(ReaderCase):
+class TwinTest(RefusalCase):
     def test_fed_apart(self):
         table = Table(NO_TWO, 2, 3, 2)
         reader = fed(table, "0001")

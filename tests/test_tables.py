@@ -3,6 +3,7 @@
 import itertools
 import unittest
 
+from cases import RefusalCase
 from oracle import all_rows
 from pulsewright.errors import BadLength, BadNumber, BadPace, BadPair, BadRow, NoTable, TooWide, Unread
 from pulsewright.rules import Rule
@@ -17,16 +18,7 @@ FAR = 10 ** 29
 NO_PAIRS = [(-1, 0), (0, -1), (0, 8), (0, 9), (1, 8), (2, 0), (FAR, 0), (0, FAR), (-FAR, -FAR)]
 
 
-class TableCase(unittest.TestCase):
-    def refuses(self, error, asked, *given, **fields):
-        with self.assertRaises(error) as caught:
-            asked(*given)
-        self.assertIs(caught.exception.__class__, error)
-        for name, told in fields.items():
-            self.assertEqual(getattr(caught.exception, name), told)
-
-
-class MadeTest(TableCase):
+class MadeTest(RefusalCase):
     def test_known(self):
         table = Table(NO_TWO, 2, 3, 2)
         self.assertEqual(table.rule(), NO_TWO)
@@ -136,7 +128,7 @@ class MadeTest(TableCase):
         self.assertEqual(table.read(row=row, pair=pair), "01")
 
 
-class WriteTest(TableCase):
+class WriteTest(RefusalCase):
     def test_each_step_is_the_lot_that_the_signs_tell(self):
         for made, table in made_tables():
             slow = SlowTable(*made)
@@ -209,7 +201,7 @@ class WriteTest(TableCase):
                     self.refuses(BadLength, other.write, "0" * many, by=p)
 
 
-class ReadTest(TableCase):
+class ReadTest(RefusalCase):
     def test_known(self):
         table = Table(NO_TWO, 2, 3, 2)
         self.assertEqual(table.write("1101"), ("010000", (0, 1)))
@@ -288,7 +280,7 @@ class ReadTest(TableCase):
         self.refuses(Unread, table.read, "001", (0, 0))
 
 
-class EqualTest(TableCase):
+class EqualTest(RefusalCase):
     def test_of_rules_that_are_alike(self):
         self.assertTrue(Table(NO_TWO, 1, 2) == Table(Rule(low=1), 1, 2))
         self.assertFalse(Table(NO_TWO, 1, 2) != Table(Rule(low=1), 1, 2))
@@ -337,7 +329,7 @@ class EqualTest(TableCase):
             self.assertEqual(len(table), len(table.pairs()))
 
 
-class ApartTest(TableCase):
+class ApartTest(RefusalCase):
     def test_questions_and_refusals_change_nothing(self):
         table = Table(NO_TWO, 2, 3)
         like = Table(NO_TWO, 2, 3)

@@ -2,7 +2,7 @@
 
 import unittest
 
-from oracle import FAR_AHEAD, SlowRows, all_rows, pieces
+from oracle import FAR_AHEAD, SlowRows, all_rows, gone, pieces
 from pulsewright.errors import BadNumber, BadRow, TooWide, Unlawful
 from pulsewright.rules import Rule
 from pulsewright.webs import first_to, lasting, stand_of, web
@@ -33,15 +33,6 @@ def narrow_rules(many, seed):
         except TooWide:
             pass
     return told
-
-
-def gone(stands, stand, row):
-    """The stand to which a row leads from a stand, None where it can't be gone."""
-    for sign in row:
-        if stand is None:
-            return None
-        stand = stands[stand][int(sign)]
-    return stand
 
 
 def are_parted(stands, one, other):

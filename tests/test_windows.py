@@ -3,13 +3,15 @@
 import random
 import unittest
 
+from cases import RefusalCase
+from oracle import gone
 from pulsewright.errors import BadLength, BadRow, Endless, TooWide
 from pulsewright.rules import Rule
 from pulsewright.tables import Table
 from pulsewright.webs import web
 from pulsewright.windows import ahead, blur, doubt, memory, slide, slides
 from samples import FREE, GAPS, JUST_FORTY, NO_TWO, NONE_LASTS, SMALL, SWINGING, WIDE, chance_rules
-from slow_tables import SlowTable, cut, gone, slow_ahead, slow_memory, slow_slide
+from slow_tables import SlowTable, cut, slow_ahead, slow_memory, slow_slide
 from table_samples import made_tables, many_made
 
 
@@ -38,16 +40,7 @@ def spoilt_by(faults, table, row):
             if any(at * q - back <= fault < (at + 1 + forth) * q for fault in faults)]
 
 
-class WindowCase(unittest.TestCase):
-    def refuses(self, error, asked, *given, **fields):
-        with self.assertRaises(error) as caught:
-            asked(*given)
-        self.assertIs(caught.exception.__class__, error)
-        for name, told in fields.items():
-            self.assertEqual(getattr(caught.exception, name), told)
-
-
-class MemoryTest(WindowCase):
+class MemoryTest(RefusalCase):
     def test_known(self):
         for rule, told in ((FREE, 0), (Rule(["1"]), 0), (NO_TWO, 1), (GAPS, 3), (Rule(low=1, high=7), 7),
                            (SWINGING, 1), (Rule(span=2), None), (Rule(span=3), None), (Rule(["01"]), 1),
@@ -100,7 +93,7 @@ class MemoryTest(WindowCase):
             self.refuses(TooWide, blur, rule, stands=stands)
 
 
-class AheadTest(WindowCase):
+class AheadTest(RefusalCase):
     def test_known(self):
         for made, told in (((FREE, 1, 1, 1), 0), ((FREE, 1, 1, 8), 3), ((FREE, 3, 3, 2), 1), ((FREE, 1, 2, 3), None),
                            ((NO_TWO, 1, 2, 8), 3), ((NO_TWO, 1, 2, 1), 0), ((NO_TWO, 2, 3, 2), None),
@@ -167,7 +160,7 @@ class AheadTest(WindowCase):
         self.assertEqual(len(seen), 4)
 
 
-class SlideTest(WindowCase):
+class SlideTest(RefusalCase):
     def test_known(self):
         table = Table(NO_TWO, 1, 2, 1)
         self.assertEqual((memory(NO_TWO), ahead(table)), (1, 0))
